@@ -1,0 +1,1 @@
+"""Readhome: messages in several tongues that can be read back."""

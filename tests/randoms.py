@@ -1,0 +1,121 @@
+"""Random books: most parts of them as they should be, some not."""
+
+NUMBER, WORD = ("number",), ("word",)
+CHOICES = (("choice", ("x", "y")), ("choice", ("x", "y", "z")), ("choice", ("y", "x")))
+TEXTS = ("a", " b", "no", "twenty characters ok", "", "one", "7")
+
+
+def random_book(random, care):
+    """A book, which has the form of a book; care is how likely each part keeps the rules."""
+    tongues = random_tongues(random)
+    messages = []
+    for name in ("ma", "mb", "mc", "md")[:random.randint(1, 4)]:
+        messages.append(random_message(random, care, name, tongues, messages))
+    return (tongues, tuple(messages))
+
+
+def random_tongues(random):
+    tongues = []
+    for at, name in enumerate(("ta", "tb", "tc")[:random.randint(1, 3)]):
+        parent = tongues[random.randrange(at)][0] if at else ""
+        names = random.sample(("one", "two", "few"), random.randint(0, 3))
+        tongues.append((name, parent, tuple(random_class(random, word) for word in names)))
+    return tuple(tongues)
+
+
+def random_class(random, name):
+    modulus = random.choice((1, 2, 5, 10))
+    residues = sorted(random.sample(range(modulus), random.randint(1, modulus)))
+    least = random.choice((0, 0, 1, 2, 11, 30))
+    most = random.choice((None, None, least, min(30, least + 9)))
+    return (name, modulus, tuple(residues), least, most)
+
+
+def random_message(random, care, name, tongues, before):
+    arguments = []
+    for word in ("a", "b", "c", "d")[:random.randint(0, 4)]:
+        kinds = CHOICES + (WORD,) * 2
+        if [kind for _, kind in arguments].count(NUMBER) < 2:
+            kinds += (NUMBER,) * 3
+        arguments.append((word, random.choice(kinds)))
+    forms = []
+    for at, (tongue, _, classes) in enumerate(tongues):
+        if at == 0 or random.random() < 0.4:
+            keys = [row[0] for row in classes] + ["=0", "=1", "=2", "=12"]
+            maker = Maker(random, care, arguments, keys, before)
+            forms.append((tongue, maker.pattern(0)))
+    return (name, tuple(arguments), tuple(forms))
+
+
+class Maker:
+    """Makes the patterns of one form."""
+
+    def __init__(self, random, care, arguments, keys, before):
+        self.random = random
+        self.care = care
+        self.arguments = arguments
+        self.keys = keys
+        self.before = before
+        self.room = 10
+        self.shown = []
+
+    def careful(self):
+        return self.random.random() < self.care
+
+    def pattern(self, depth):
+        pieces = []
+        for _ in range(self.random.choice((0, 1, 1, 2, 3)) if depth else 4):
+            if self.room > 0:
+                self.room -= 1
+                pieces.append(self.piece(depth))
+        return tuple(pieces)
+
+    def piece(self, depth):
+        word = self.random.choice(("text", "mark", "show", "case", "case", "term", "term"))
+        if word == "show":
+            fit = [name for name, kind in self.arguments if kind in (NUMBER, WORD)]
+            if self.careful():
+                fit = [name for name in fit if name not in self.shown]
+            name = self.random.choice(fit or ["x"])
+            if fit or not self.careful():
+                self.shown.append(name)
+                return ("show", name)
+        if word == "case" and depth < 3:
+            fit = [name for name, kind in self.arguments if kind != WORD]
+            if fit or not self.careful():
+                return self.case(self.random.choice(fit or ["a"]), depth)
+        if word == "term":
+            return self.term()
+        return ("mark",) if word == "mark" else ("text", self.random.choice(TEXTS) or "i" * 20)
+
+    def case(self, name, depth):
+        kind = dict(self.arguments).get(name, NUMBER)
+        keys = list(self.keys if kind == NUMBER else kind[1] if kind != WORD else ["x"])
+        if not self.careful():
+            keys += ["none", "=3"]
+        keys = self.random.sample(keys, self.random.randint(0, min(4, len(keys))))
+        shown = list(self.shown)
+        branches = []
+        for key in keys + ["other"]:
+            self.shown = list(shown)
+            branches.append((key, self.pattern(depth + 1)))
+        return ("case", name, tuple(branches))
+
+    def sources(self, kind):
+        """What an argument of the kind may be bound to."""
+        found = [("argument", name) for name, its in self.arguments if its == kind]
+        return found + [("option", option) for option in (kind[1] if kind[0] == "choice" else ())]
+
+    def term(self):
+        fit = [message for message in self.before
+               if all(self.sources(kind) for _, kind in message[1])]
+        if self.careful() and not fit:
+            return ("mark",)
+        name, arguments, _ = self.random.choice(fit or [("none", (), ())])
+        bindings = [(argument, self.random.choice(self.sources(kind)))
+                    for argument, kind in arguments]
+        if not self.careful():
+            bindings = self.random.choice((
+                bindings[1:], bindings[::-1], bindings[:3] + [("a", ("option", "x"))],
+                [(word, ("argument", "b")) for word, _ in bindings]))
+        return ("term", name, tuple(bindings))

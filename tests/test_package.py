@@ -1,0 +1,149 @@
+"""The interface that the document lists, and what can be checked of the rules of the language."""
+
+import ast
+import builtins
+import importlib
+import inspect
+import pathlib
+import unittest
+
+PACKAGE = pathlib.Path(__file__).resolve().parent.parent / "readhome"
+
+INTERFACE = {
+    "errors": {
+        "BookError": None, "BadValue": ["at"], "BadPattern": ["at"], "NoMessage": ["name"],
+        "NoTongue": ["name"], "NotSaid": ["text"], "Twofold": ["first", "second"],
+        "Shared": ["name", "text"],
+    },
+    "books": {"is_book": ["value"], "fault": ["value"], "is_lawful": ["value"]},
+    "saying": {
+        "is_value": ["book", "name", "value"], "class_of": ["book", "tongue", "number"],
+        "form_of": ["book", "name", "tongue"], "say": ["book", "name", "tongue", "values"],
+    },
+}
+
+LIBRARY = {
+    "heapq": {"heappush", "heappop", "heapify", "heapreplace", "heappushpop"},
+    "math": {"gcd", "lcm", "isqrt", "comb", "perm", "factorial"},
+    "itertools": {"product", "combinations", "permutations", "chain", "accumulate", "pairwise",
+                  "islice", "zip_longest"},
+    "collections": {"defaultdict", "deque"},
+}
+
+BUILTINS = set(
+    "len range enumerate zip min max sum abs sorted reversed int str bool bytes list tuple dict set "
+    "frozenset isinstance ord repr any all divmod pow getattr hasattr setattr iter next map super "
+    "property staticmethod classmethod type Exception ValueError TypeError KeyError IndexError "
+    "LookupError ZeroDivisionError ArithmeticError OverflowError RuntimeError NotImplementedError "
+    "AttributeError StopIteration NotImplemented".split())
+
+BARRED = (
+    ast.Global, ast.AsyncFunctionDef, ast.AsyncFor, ast.AsyncWith, ast.Await, ast.Div, ast.MatMult,
+    ast.Try, ast.Import)
+
+
+def trees():
+    for path in sorted(PACKAGE.glob("*.py")):
+        yield path.name, ast.parse(path.read_text(encoding="utf-8"))
+
+
+def docstrings(tree):
+    """The nodes that are docstrings."""
+    found = []
+    for node in ast.walk(tree):
+        if isinstance(node, (ast.Module, ast.ClassDef, ast.FunctionDef)):
+            first = node.body[0] if node.body else None
+            if isinstance(first, ast.Expr) and isinstance(first.value, ast.Constant):
+                found.append(first.value)
+    return found
+
+
+class TestInterface(unittest.TestCase):
+    def test_names_and_arguments(self):
+        for module, things in INTERFACE.items():
+            held = importlib.import_module(f"readhome.{module}")
+            for name, arguments in things.items():
+                thing = getattr(held, name)
+                self.assertEqual(thing.__module__, f"readhome.{module}")
+                if arguments is not None:
+                    self.assertEqual(list(inspect.signature(thing).parameters), arguments, name)
+
+
+class TestLanguage(unittest.TestCase):
+    def test_files(self):
+        for path in PACKAGE.iterdir():
+            if path.name == "__pycache__":
+                continue
+            self.assertEqual(path.suffix, ".py")
+            text = path.read_text(encoding="utf-8")
+            self.assertTrue(all(sign == "\n" or " " <= sign <= "~" for sign in text), path.name)
+            lines = text.split("\n")
+            self.assertLessEqual(len(lines), 399, path.name)
+            self.assertLessEqual(max(map(len, lines)), 120, path.name)
+
+    def test_length_of_functions(self):
+        for name, tree in trees():
+            for node in ast.walk(tree):
+                if isinstance(node, ast.FunctionDef):
+                    self.assertLessEqual(node.end_lineno - node.lineno + 1, 40, (name, node.name))
+
+    def test_module_level(self):
+        for name, tree in trees():
+            for node in tree.body:
+                if isinstance(node, ast.Expr):
+                    self.assertIsInstance(node.value, ast.Constant, name)
+                else:
+                    self.assertIsInstance(
+                        node, (ast.ImportFrom, ast.FunctionDef, ast.ClassDef, ast.Assign), name)
+
+    def test_imports(self):
+        found = {}
+        for name, tree in trees():
+            module = "readhome." + name[:-3]
+            found[module] = []
+            for node in ast.walk(tree):
+                self.assertNotIsInstance(node, BARRED, name)
+                if not isinstance(node, ast.ImportFrom):
+                    continue
+                self.assertIn(node, tree.body, name)
+                for alias in node.names:
+                    self.assertIsNone(alias.asname, name)
+                    if node.module in LIBRARY:
+                        self.assertIn(alias.name, LIBRARY[node.module], name)
+                    else:
+                        found[module].append(node.module)
+                        thing = getattr(importlib.import_module(node.module), alias.name)
+                        if hasattr(thing, "__module__"):
+                            self.assertEqual(thing.__module__, node.module, name)
+        # No module reaches itself through what it imports.
+        for module in found:
+            reached, open_ones = [], list(found[module])
+            while open_ones:
+                other = open_ones.pop()
+                self.assertIn(other, found, module)
+                if other not in reached:
+                    reached.append(other)
+                    open_ones.extend(found[other])
+            self.assertNotIn(module, reached)
+
+    def test_builtins(self):
+        for name, tree in trees():
+            for node in ast.walk(tree):
+                if isinstance(node, ast.Name) and hasattr(builtins, node.id):
+                    self.assertIn(node.id, BUILTINS, name)
+                    self.assertIsInstance(node.ctx, ast.Load, (name, node.id))
+                if isinstance(node, ast.arg):
+                    self.assertFalse(hasattr(builtins, node.arg), (name, node.arg))
+
+    def test_numbers_and_strings(self):
+        for name, tree in trees():
+            skipped = docstrings(tree)
+            for node in ast.walk(tree):
+                if isinstance(node, ast.Constant) and node not in skipped:
+                    self.assertNotIsInstance(node.value, (float, complex), name)
+                    if isinstance(node.value, str):
+                        self.assertNotIn(chr(37), node.value, name)
+
+
+if __name__ == "__main__":
+    unittest.main()
