@@ -36,6 +36,14 @@ def lawful(value):
     raise BadValue(0)
 
 
+def lawful_with(book, name, tongue):
+    """The lawful book, made ready, in which there are a message and a tongue of these names."""
+    lookup = lawful(book)
+    lookup.check_message(name)
+    lookup.check_tongue(tongue)
+    return lookup
+
+
 def first_fault(lookup):
     """The triple that `fault` returns for the book that was made ready."""
     before = []

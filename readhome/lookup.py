@@ -10,6 +10,11 @@ ALL_NUMBERS = (1 << 60) - 1
 KEY_NUMBERS = 31
 
 
+def stand_in(number):
+    """The number below 60 that takes the same ways as the number."""
+    return number if number < NUMBERS else NUMBERS - 10 + number % 10
+
+
 def class_among(classes, number):
     """The name of the first of the classes that the number is in, or `other`."""
     for name, modulus, residues, least, most in classes:

@@ -1,9 +1,10 @@
 """What the values of a message say ([18] to [20])."""
 
-from readhome.books import lawful
+from readhome.books import lawful, lawful_with
 from readhome.errors import BadValue
 from readhome.lookup import branch_taken, class_among
 from readhome.values import are_values, is_number
+from readhome.words import MARK_SIGN
 
 
 def is_value(book, name, value):
@@ -24,17 +25,13 @@ def class_of(book, tongue, number):
 
 def form_of(book, name, tongue):
     """The pair (tongue, pattern) of the form that the message has in the tongue."""
-    lookup = lawful(book)
-    lookup.check_message(name)
-    lookup.check_tongue(tongue)
+    lookup = lawful_with(book, name, tongue)
     return lookup.form(name, tongue)
 
 
 def say(book, name, tongue, values):
     """The text that the values say."""
-    lookup = lawful(book)
-    lookup.check_message(name)
-    lookup.check_tongue(tongue)
+    lookup = lawful_with(book, name, tongue)
     if not are_values(lookup.arguments[name], values):
         raise BadValue(3)
     return said(lookup, name, tongue, values)
@@ -57,7 +54,7 @@ def piece_said(lookup, tongue, piece, held):
     if piece[0] == "text":
         return piece[1]
     if piece[0] == "mark":
-        return "|"
+        return MARK_SIGN
     if piece[0] == "show":
         return str(held[piece[1]])
     if piece[0] == "case":

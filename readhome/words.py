@@ -1,5 +1,10 @@
 """Integers, sequences, words, names and keys ([13] and [15])."""
 
+LETTERS = "abcdefghijklmnopqrstuvwxyz"
+DIGITS = "0123456789"
+# What a mark says.
+MARK_SIGN = "|"
+
 
 def is_integer(value):
     """Whether value is an integer; True and False are none."""

@@ -1,4 +1,6 @@
-"""Random books: most parts of them as they should be, some not."""
+"""Random books: most parts of them as they should be, some not; and small ones for reading."""
+
+from readhome.books import is_lawful
 
 NUMBER, WORD = ("number",), ("word",)
 CHOICES = (("choice", ("x", "y")), ("choice", ("x", "y", "z")), ("choice", ("y", "x")))
@@ -119,3 +121,77 @@ class Maker:
                 bindings[1:], bindings[::-1], bindings[:3] + [("a", ("option", "x"))],
                 [(word, ("argument", "b")) for word, _ in bindings]))
         return ("term", name, tuple(bindings))
+
+
+SIGNS = (("a", "b", "ab", "aa"), ("1", "0", "12", "11", "2"), ("a", "1", "-", " "),
+         ("a", "b", " ", "ba", "0", "7"))
+
+
+def short_book(random):
+    """A book of one message `main` in one tongue `en`.
+
+    Its texts are short and much alike, so that values often say the same, but not always.
+    """
+    classes = tuple(random_class(random, name) for name in ("one", "two", "few")[:random.randint(0, 3)])
+    kinds = random.sample((NUMBER, NUMBER, WORD, WORD, CHOICES[1]), random.randint(1, 3))
+    arguments = tuple(zip("nwv", kinds))
+    maker = ShortMaker(random, arguments, [row[0] for row in classes])
+    pattern = maker.pattern(0)
+    if random.random() < 0.6:
+        pattern += tuple(("show", name) for name, kind in arguments
+                         if kind in (NUMBER, WORD) and name not in maker.shown)
+    return ((("en", "", classes),), (("main", arguments, (("en", pattern[:8]),)),))
+
+
+def lawful_forms(chance, many):
+    """For so many lawful books, short or with all that there is, all (book, name, tongue, arguments)."""
+    while many > 0:
+        book = short_book(chance) if chance.random() < 0.6 else random_book(chance, 1)
+        if is_lawful(book):
+            many -= 1
+            for name, arguments, _ in book[1]:
+                for tongue, _, _ in book[0]:
+                    yield book, name, tongue, arguments
+
+
+class ShortMaker:
+    """Makes the pattern of a message that is short and shows nothing twice."""
+
+    def __init__(self, random, arguments, keys):
+        self.random = random
+        self.arguments = arguments
+        self.keys = keys
+        self.signs = random.choice(SIGNS)
+        self.room = random.randint(4, 14)
+        self.shown = []
+
+    def pattern(self, depth):
+        pieces = []
+        for _ in range(self.random.randint(1 - min(depth, 1), 4 - min(depth, 1))):
+            if self.room > 0:
+                self.room -= 1
+                pieces.append(self.piece(depth))
+        return tuple(pieces)
+
+    def piece(self, depth):
+        chance = self.random.random()
+        fit = [name for name, kind in self.arguments if kind in (NUMBER, WORD) and name not in self.shown]
+        if chance < 0.45 and fit:
+            self.shown.append(self.random.choice(fit))
+            return ("show", self.shown[-1])
+        fit = [(name, kind) for name, kind in self.arguments if kind != WORD]
+        if chance < 0.7 and depth < 2 and fit:
+            return self.case(*self.random.choice(fit), depth)
+        return ("text", self.random.choice(self.signs)) if chance < 0.9 else ("mark",)
+
+    def case(self, name, kind, depth):
+        keys = list(kind[1]) if kind != NUMBER else self.keys + [
+            "=0", "=1", "=12", f"={self.random.randint(2, 11)}"]
+        keys = self.random.sample(keys, self.random.randint(0, min(3, len(keys))))
+        before, shown, branches = self.shown, [], []
+        for key in keys + ["other"]:
+            self.shown = list(before)
+            branches.append((key, self.pattern(depth + 1)))
+            shown += self.shown
+        self.shown = before + shown
+        return ("case", name, tuple(branches))

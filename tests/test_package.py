@@ -20,6 +20,14 @@ INTERFACE = {
         "is_value": ["book", "name", "value"], "class_of": ["book", "tongue", "number"],
         "form_of": ["book", "name", "tongue"], "say": ["book", "name", "tongue", "values"],
     },
+    "ways": {
+        "ways": ["book", "name", "tongue"], "way_of": ["book", "name", "tongue", "values"],
+    },
+    "reading": {
+        "readings": ["book", "name", "tongue", "text", "limit"],
+        "read": ["book", "name", "tongue", "text"],
+    },
+    "clashes": {"is_readable": ["book", "name", "tongue"], "clash": ["book", "name", "tongue"]},
 }
 
 LIBRARY = {
@@ -36,6 +44,10 @@ BUILTINS = set(
     "property staticmethod classmethod type Exception ValueError TypeError KeyError IndexError "
     "LookupError ZeroDivisionError ArithmeticError OverflowError RuntimeError NotImplementedError "
     "AttributeError StopIteration NotImplemented".split())
+
+# The methods of builtin values that the package calls so far, all of them allowed.
+METHODS = set("append endswith extend find get index items join setdefault startswith values "
+              "bit_length add".split())
 
 BARRED = (
     ast.Global, ast.AsyncFunctionDef, ast.AsyncFor, ast.AsyncWith, ast.Await, ast.Div, ast.MatMult,
@@ -134,6 +146,29 @@ class TestLanguage(unittest.TestCase):
                     self.assertIsInstance(node.ctx, ast.Load, (name, node.id))
                 if isinstance(node, ast.arg):
                     self.assertFalse(hasattr(builtins, node.arg), (name, node.arg))
+
+    def test_methods(self):
+        own = {node.name for _, tree in trees() for node in ast.walk(tree)
+               if isinstance(node, ast.FunctionDef)}
+        for name, tree in trees():
+            for node in ast.walk(tree):
+                if isinstance(node, ast.Call) and isinstance(node.func, ast.Attribute):
+                    self.assertIn(node.func.attr, METHODS | own, name)
+
+    def test_sets(self):
+        # A set is made where it is sorted or counted, or once for a name of its own.
+        for name, tree in trees():
+            allowed = set()
+            for node in ast.walk(tree):
+                if isinstance(node, ast.Call) and isinstance(node.func, ast.Name):
+                    if node.func.id in ("sorted", "len"):
+                        allowed.update(map(id, node.args))
+                if isinstance(node, ast.Assign) and isinstance(node.targets[0], ast.Name):
+                    allowed.add(id(node.value))
+            for node in ast.walk(tree):
+                made = isinstance(node, (ast.Set, ast.SetComp)) or (
+                    isinstance(node, ast.Call) and isinstance(node.func, ast.Name) and node.func.id == "set")
+                self.assertTrue(not made or id(node) in allowed, (name, getattr(node, "lineno", 0)))
 
     def test_numbers_and_strings(self):
         for name, tree in trees():

@@ -4,36 +4,20 @@ import random
 import unittest
 
 from readhome.books import is_lawful
-from readhome.errors import BadValue, NoMessage, NoTongue
+from readhome.errors import NoMessage, NoTongue
 from readhome.saying import class_of, form_of, is_value, say
 from tests import reference
+from tests.cases import BIG, LONG, NO_BOOKS, NO_NAMES, BookCase
 from tests.randoms import random_book
 from tests.samples import (
-    OTHER_THINGS, OVERVIEW, RICH, SEX, as_lists, book_of, is_plain, places, part_at, text, with_part)
+    OTHER_THINGS, OVERVIEW, RICH, SEX, as_lists, book_of, is_plain, part_at, places, text, with_part)
 
 NUMBER, WORD = ("number",), ("word",)
 FOUR = (("n", NUMBER), ("w", WORD), ("s", SEX), ("c", ("choice", ("a", "b", "c", "d"))))
 MARK = ("mark",)
-NO_BOOKS = OTHER_THINGS + (((), ()), book_of((("show", "x"),)), OVERVIEW[0], (OVERVIEW,))
-NO_NAMES = OTHER_THINGS + ("gone", "foundx", "foun", "n", "FOUND", ("found",), ["en"], "en ")
-BIG = 123456789012345678901234567890
-LONG = "abcdefghij" * 10
 
 
-class SayingCase(unittest.TestCase):
-    def check_raises(self, error, attribute, thing, function, *arguments):
-        before = repr(arguments)
-        with self.assertRaises(error) as caught:
-            function(*arguments)
-        self.assertIs(type(caught.exception), error)
-        self.assertIs(getattr(caught.exception, attribute), thing)
-        self.assertEqual(repr(arguments), before)
-
-    def check_bad(self, at, function, *arguments):
-        self.check_raises(BadValue, "at", at, function, *arguments)
-
-
-class TestIsValue(SayingCase):
+class TestIsValue(BookCase):
     def check(self, book, name, value, expected):
         for given, thing in ((book, value), (as_lists(book), as_lists(value))):
             before = repr((given, thing))
@@ -109,7 +93,7 @@ class TestIsValue(SayingCase):
             self.check_raises(NoMessage, "name", name, is_value, OVERVIEW, name, (3, "ann"))
 
 
-class TestClassOf(SayingCase):
+class TestClassOf(BookCase):
     def check(self, classes, expected):
         """expected tells the class of each number that is not in `other`."""
         book = book_of((), (), classes)
@@ -172,7 +156,7 @@ class TestClassOf(SayingCase):
             self.check_bad(0, class_of, book, "en", 1)
 
 
-class TestFormOf(SayingCase):
+class TestFormOf(BookCase):
     def test_own_form_or_that_of_the_parents(self):
         for name, homes in (("own", ("en", "en", "ch")), ("count", ("en", "sl", "sl")),
                             ("all", ("en", "en", "ch"))):
@@ -205,17 +189,11 @@ class TestFormOf(SayingCase):
         self.assertEqual(found, expected)
 
     def test_errors_in_their_order(self):
-        for name in NO_NAMES:
-            self.check_raises(NoMessage, "name", name, form_of, OVERVIEW, name, "en")
-            self.check_raises(NoMessage, "name", name, form_of, OVERVIEW, name, "gone")
-            self.check_raises(NoTongue, "name", name, form_of, OVERVIEW, "found", name)
-        for book in NO_BOOKS:
-            self.check_bad(0, form_of, book, "found", "en")
-            self.check_bad(0, form_of, book, "gone", "gone")
+        self.check_first_errors(form_of)
         self.check_raises(NoMessage, "name", "en", form_of, OVERVIEW, "en", "found")
 
 
-class TestSay(SayingCase):
+class TestSay(BookCase):
     def check(self, book, name, tongue, values, expected):
         for given, thing in ((book, values), (as_lists(book), as_lists(values))):
             before = repr((given, thing))
@@ -348,14 +326,7 @@ class TestSay(SayingCase):
                          "3 files of ann")
 
     def test_errors_in_their_order(self):
-        for book in NO_BOOKS:
-            self.check_bad(0, say, book, "found", "en", (3, "ann"))
-            self.check_bad(0, say, book, "gone", "gone", ())
-        for name in NO_NAMES:
-            self.check_raises(NoMessage, "name", name, say, OVERVIEW, name, "en", (3, "ann"))
-            self.check_raises(NoMessage, "name", name, say, OVERVIEW, name, "gone", ())
-            self.check_raises(NoTongue, "name", name, say, OVERVIEW, "found", name, (3, "ann"))
-            self.check_raises(NoTongue, "name", name, say, OVERVIEW, "found", name, ())
+        self.check_first_errors(say, (3, "ann"))
         for values in OTHER_THINGS + (
             (3,), (3, "ann", "x"), ("ann", 3), (True, "ann"), (-1, "ann"), (3, ""), (3, "Ann"),
             ("3", "ann"), (None, "ann"), (3, None), ((3, "ann"),), ((3,), "ann"), (3, ["a"]), "3a",
