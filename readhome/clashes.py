@@ -3,41 +3,40 @@
 from readhome.books import lawful_with
 from readhome.meeting import ALONE, first_meeting
 from readhome.nets import Net
+from readhome.overlaps import Overlaps
 from readhome.reading import least_readings
-from readhome.tracks import ways_of
+from readhome.tracks import Voice
 
 
 def is_readable(book, name, tongue):
     """Whether any two different values of the message say different texts."""
     lookup = lawful_with(book, name, tongue)
-    return clash_text(ways_of(lookup, name, tongue)) is None
+    return not Overlaps().have_clash(Voice(lookup, name, tongue).ways)
 
 
 def clash(book, name, tongue):
     """The triple of the first text that two values say and the two least of them, or None."""
     lookup = lawful_with(book, name, tongue)
-    ways = ways_of(lookup, name, tongue)
-    text = clash_text(ways)
+    return first_clash(Voice(lookup, name, tongue), Overlaps())
+
+
+def first_clash(voice, overlaps):
+    """The triple that `clash` returns for the message in the tongue."""
+    text = clash_text(voice.ways, overlaps)
     if text is None:
         return None
-    first, second = least_readings(lookup.arguments[name], ways, text, 2)
+    first, second = least_readings(voice, text, 2)
     return (text, first, second)
 
 
-def clash_text(ways):
+def clash_text(ways, overlaps):
     """The shortest text that two values of these ways say, the first of these, or None."""
     net = Net()
-    firsts = [net.add_way(way) for way in ways]
+    firsts = [net.add_way(way.fixed, way.slot_limits) for way in ways]
     pairs = []
     for at, way in enumerate(ways):
-        # Two values that differ in what is not shown share every text of their way.
-        pairs.append((firsts[at], firsts[at] if way.hides_values() else ALONE))
-        for behind in range(at + 1, len(ways)):
-            if may_end_alike(way, ways[behind]):
-                pairs.append((firsts[at], firsts[behind]))
+        for behind in overlaps.partners(ways, at):
+            # Two values that differ in what is not shown share every text of their way.
+            apart = behind > at or way.hides_values()
+            pairs.append((firsts[at], firsts[behind] if apart else ALONE))
     return first_meeting(net, pairs)
-
-
-def may_end_alike(one, other):
-    """Whether the signs behind the last slots of two ways allow that their texts end alike."""
-    return one.fixed[-1].endswith(other.fixed[-1]) or other.fixed[-1].endswith(one.fixed[-1])

@@ -84,12 +84,11 @@ def layouts_of(ways, text):
     spans = {None: word_spans(text)}
     found = []
     for way in ways:
-        limits = [way.limits[at] for at in way.slots]
-        for limit in limits:
+        for limit in way.slot_limits:
             if limit not in spans:
                 spans[limit] = number_spans(text, limit)
         places = [places_of(text, fixed) for fixed in way.fixed]
-        found.append(Layout(way, text, places, [spans[limit] for limit in limits]))
+        found.append(Layout(way, text, places, [spans[limit] for limit in way.slot_limits]))
     return [layout for layout in found if layout.says_text()]
 
 

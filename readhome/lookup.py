@@ -50,6 +50,7 @@ class Lookup:
 
     def __init__(self, book):
         tongues, messages = book
+        self.book = book
         self.parents = {name: parent for name, parent, _ in tongues}
         self.classes = {name: classes for name, _, classes in tongues}
         self.arguments = {name: arguments for name, arguments, _ in messages}

@@ -1,9 +1,25 @@
-"""The shortest text that two readings share."""
+"""Texts that two readings share: whether there is one, and the shortest."""
 
 from heapq import heapify, heappop, heappush
 
 # In place of the second of two readings that have not parted yet.
 ALONE = -1
+
+
+def can_meet(net, one, other):
+    """Whether some text leads this pair of places, as first_meeting takes it, to ends of ways."""
+    open_pairs = [(one, other)]
+    seen = set()
+    seen.add((one, other))
+    while open_pairs:
+        one, other = open_pairs.pop()
+        if one in net.last_places and other in net.last_places:
+            return True
+        for _, first, second in steps_from(net, one, other):
+            if (first, second) not in seen:
+                seen.add((first, second))
+                open_pairs.append((first, second))
+    return False
 
 
 def first_meeting(net, pairs):

@@ -26,16 +26,16 @@ class Net:
         # The places behind the last piece of a way.
         self.last_places = {}
 
-    def add_way(self, way):
-        """Add the places of the way; the first of them."""
+    def add_way(self, fixed, limits):
+        """Add the places of a way with these fixed texts and limits of its slots; the first."""
         first = len(self.rests)
-        need = sum([len(fixed) for fixed in way.fixed]) + len(way.slots)
-        for at, fixed in enumerate(way.fixed):
+        need = sum([len(part) for part in fixed]) + len(limits)
+        for at, part in enumerate(fixed):
             if at > 0:
-                self.add_slot(way.limits[way.slots[at - 1]], need)
+                self.add_slot(limits[at - 1], need)
                 need -= 1
-            for start in range(len(fixed)):
-                self.add_place(fixed[start:], {}, need)
+            for start in range(len(part)):
+                self.add_place(part[start:], {}, need)
                 need -= 1
         self.last_places[len(self.rests)] = True
         self.add_place("", {}, 0)

@@ -3,7 +3,7 @@
 from readhome.books import lawful_with
 from readhome.errors import BadValue
 from readhome.layouts import layouts_of
-from readhome.tracks import ways_of
+from readhome.tracks import Voice
 from readhome.words import is_within
 
 MOST_READINGS = 20
@@ -16,7 +16,7 @@ def readings(book, name, tongue, text, limit):
         raise BadValue(3)
     if not is_within(limit, 1, MOST_READINGS):
         raise BadValue(4)
-    return least_readings(lookup.arguments[name], ways_of(lookup, name, tongue), text, limit)
+    return least_readings(Voice(lookup, name, tongue), text, limit)
 
 
 def read(book, name, tongue, text):
@@ -24,16 +24,21 @@ def read(book, name, tongue, text):
     lookup = lawful_with(book, name, tongue)
     if not isinstance(text, str):
         raise BadValue(3)
-    found = least_readings(lookup.arguments[name], ways_of(lookup, name, tongue), text, 1)
+    return first_reading(Voice(lookup, name, tongue), text)
+
+
+def first_reading(voice, text):
+    """The least value that says the text, or None."""
+    found = least_readings(voice, text, 1)
     return found[0] if found else None
 
 
-def least_readings(arguments, ways, text, limit):
-    """The least values of a message with these arguments and ways that say the text."""
+def least_readings(voice, text, limit):
+    """The least values that say the text, ascending, at most limit."""
     found = []
-    layouts = layouts_of(ways, text)
+    layouts = layouts_of(voice.ways, text)
     if layouts:
-        add_readings(arguments, layouts, (), limit, found)
+        add_readings(voice.arguments, layouts, (), limit, found)
     return tuple(found)
 
 

@@ -2,6 +2,7 @@
 
 from readhome.lookup import stand_in
 from readhome.paths import paths_of
+from readhome.runs import runs_of
 from readhome.words import MARK_SIGN
 
 
@@ -12,10 +13,12 @@ class Way:
         # For each argument: numbers as bits, a tuple of options, or None for any word.
         self.limits = limits
         self.pieces = pieces
-        # The number of the argument that each slot shows.
+        # The number of the argument that each slot shows, and its limit.
         self.slots = slots
+        self.slot_limits = [limits[at] for at in slots]
         # The signs before the first slot, between any two, and behind the last.
         self.fixed = fixed_signs(pieces)
+        self.runs = runs_of(self.fixed, self.slot_limits)
 
     def has(self, values):
         """Whether the value of the message takes this way."""
@@ -26,6 +29,14 @@ class Way:
         return any([
             at not in self.slots and is_wide(limit) for at, limit in enumerate(self.limits)
         ])
+
+
+class Voice:
+    """A message in a tongue."""
+
+    def __init__(self, lookup, name, tongue):
+        self.arguments = lookup.arguments[name]
+        self.ways = ways_of(lookup, name, tongue)
 
 
 def ways_of(lookup, name, tongue):

@@ -127,20 +127,36 @@ SIGNS = (("a", "b", "ab", "aa"), ("1", "0", "12", "11", "2"), ("a", "1", "-", " 
          ("a", "b", " ", "ba", "0", "7"))
 
 
-def short_book(random):
-    """A book of one message `main` in one tongue `en`.
+def short_book(random, names=("main",)):
+    """A book of messages of these names in one tongue `en`.
 
-    Its texts are short and much alike, so that values often say the same, but not always.
+    Their texts are short and much alike, so that values often say the same, but not always.
     """
     classes = tuple(random_class(random, name) for name in ("one", "two", "few")[:random.randint(0, 3)])
+    signs = SIGNS if len(names) == 1 else (random.choice(SIGNS),)
+    return ((("en", "", classes),), tuple(
+        short_message(random, name, [row[0] for row in classes], signs) for name in names))
+
+
+def short_message(random, name, classes, signs):
+    """A message for a tongue that has classes of these names, with one of the lists of signs."""
     kinds = random.sample((NUMBER, NUMBER, WORD, WORD, CHOICES[1]), random.randint(1, 3))
     arguments = tuple(zip("nwv", kinds))
-    maker = ShortMaker(random, arguments, [row[0] for row in classes])
+    maker = ShortMaker(random, arguments, classes, random.choice(signs))
     pattern = maker.pattern(0)
     if random.random() < 0.6:
         pattern += tuple(("show", name) for name, kind in arguments
                          if kind in (NUMBER, WORD) and name not in maker.shown)
-    return ((("en", "", classes),), (("main", arguments, (("en", pattern[:8]),)),))
+    return (name, arguments, (("en", pattern[:8]),))
+
+
+def lawful_books(chance, names, many):
+    """So many lawful short books of messages of these names."""
+    while many > 0:
+        book = short_book(chance, names)
+        if is_lawful(book):
+            many -= 1
+            yield book
 
 
 def lawful_forms(chance, many):
@@ -157,11 +173,11 @@ def lawful_forms(chance, many):
 class ShortMaker:
     """Makes the pattern of a message that is short and shows nothing twice."""
 
-    def __init__(self, random, arguments, keys):
+    def __init__(self, random, arguments, keys, signs):
         self.random = random
         self.arguments = arguments
         self.keys = keys
-        self.signs = random.choice(SIGNS)
+        self.signs = signs
         self.room = random.randint(4, 14)
         self.shown = []
 

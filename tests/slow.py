@@ -1,9 +1,10 @@
-"""Ways, readings and clashes told once more, slowly and from the words of the document alone.
+"""Ways, readings, clashes and shared texts told once more, slowly and from the document alone.
 
 Ways are found by trying all values, readings by trying all parts of the text as values, clashes
-by reading all texts sign by sign on two ways at once.
+and shared texts by reading all texts sign by sign on two ways at once.
 """
 
+import functools
 import itertools
 
 from tests import reference
@@ -23,8 +24,9 @@ def arguments_of(book, name):
     return {row[0]: row[1] for row in book[1]}[name]
 
 
+@functools.lru_cache(maxsize=64)
 def ways(book, name, tongue):
-    """What `ways` should return."""
+    """What `ways` should return; book is a book of tuples."""
     arguments = arguments_of(book, name)
     home, pattern = reference.form_of(book, name, tongue)
     taken = {}
@@ -118,14 +120,13 @@ class Reader:
         self.kinds = dict(self.arguments)
         self.ways = ways(book, name, tongue)
 
-    def signs(self):
-        """Signs that stand for all: letters that no text has are alike, the least is enough."""
-        texts = set("|" + DIGITS)
-        for _, pieces in self.ways:
-            for piece in pieces:
-                if piece[0] == "text":
-                    texts |= set(piece[1])
-        return sorted(texts | {min(set(LETTERS) - texts, default="a")})
+    def text_signs(self):
+        """All signs of the texts."""
+        return {sign for _, pieces in self.ways for piece in pieces if piece[0] == "text" for sign in piece[1]}
+
+    def begin(self, way):
+        """The states before the first sign is read on the way."""
+        return self.closure((way, 0, ""))
 
     def limit(self, way, argument):
         at = [row[0] for row in self.arguments].index(argument)
@@ -177,12 +178,12 @@ class Reader:
         for one in range(len(self.ways)):
             for other in range(one, len(self.ways)):
                 parted = one != other or self.hides(one)
-                for first in self.closure((one, 0, "")):
-                    for second in self.closure((other, 0, "")):
+                for first in self.begin(one):
+                    for second in self.begin(other):
                         level.append((first, second, parted or first != second))
         groups = [("", set(level))]
         seen = set(level)
-        signs = self.signs()
+        signs = signs_for(self.text_signs())
         for _ in range(most + 1):
             following = []
             for text, states in groups:
@@ -201,6 +202,35 @@ class Reader:
                         following.append((text + sign, met))
             groups = following
         return None
+
+
+def signs_for(texts):
+    """Signs that stand for all: letters that no text has are alike, so the least is enough."""
+    signs = set("|" + DIGITS) | texts
+    return sorted(signs | {min(set(LETTERS) - signs, default="a")})
+
+
+def shared_text(book, one, other, tongue, most):
+    """The text of `shared`, or None if there is none of at most so many signs."""
+    first, second = Reader(book, one, tongue), Reader(book, other, tongue)
+    starts = [[state for way in range(len(reader.ways)) for state in reader.begin(way)]
+              for reader in (first, second)]
+    groups = [("", set(itertools.product(*starts)))]
+    seen = set(groups[0][1])
+    signs = signs_for(first.text_signs() | second.text_signs())
+    for _ in range(most + 1):
+        following = []
+        for text, states in groups:
+            if any(first.is_end(here) and second.is_end(there) for here, there in states):
+                return text
+            for sign in signs:
+                met = {pair for here, there in states for pair in itertools.product(
+                    first.after(here, sign), second.after(there, sign))} - seen
+                seen |= met
+                if met:
+                    following.append((text + sign, met))
+        groups = following
+    return None
 
 
 def clash(book, name, tongue, most):
