@@ -211,3 +211,32 @@ class ShortMaker:
             shown += self.shown
         self.shown = before + shown
         return ("case", name, tuple(branches))
+
+
+def tight_book(random):
+    """A book of one message `main` in `en` that often needs marks between what it shows.
+
+    Its form has at most 6 gaps, and patterns of at most 4 pieces.
+    """
+    kinds = random.sample((WORD, WORD, WORD, NUMBER, NUMBER, CHOICES[0]), random.randint(1, 4))
+    if kinds.count(NUMBER) > 1 and len(kinds) > 3:
+        kinds.remove(NUMBER)
+    arguments = tuple(zip("abcd", kinds))
+    shows = [("show", name) for name, kind in arguments if kind in (WORD, NUMBER)]
+    texts = [("text", sign) for sign in random.choice(SIGNS)]
+    pieces = list(shows)
+    for name, kind in arguments:
+        if kind not in (WORD, NUMBER) or kind == NUMBER and random.random() < 0.3:
+            keys = [kind[1][0] if kind != NUMBER else random.choice(("=0", "=1", "few")), "other"]
+            branches = []
+            for key in keys:
+                held = random.choices(texts, k=random.randint(0, 3))
+                if random.random() < 0.3:
+                    held.insert(random.randint(0, len(held)), ("mark",))
+                branches.append((key, tuple(held)))
+            pieces.append(("case", name, tuple(branches)))
+    random.shuffle(pieces)
+    while len(pieces) < 4 and random.random() < 0.4:
+        pieces.insert(random.randint(0, len(pieces)), random.choice(texts))
+    few = random_class(random, "few")
+    return ((("en", "", (few,)),), (("main", arguments, (("en", tuple(pieces[:4])),)),))

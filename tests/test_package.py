@@ -28,6 +28,26 @@ INTERFACE = {
         "read": ["book", "name", "tongue", "text"],
     },
     "clashes": {"is_readable": ["book", "name", "tongue"], "clash": ["book", "name", "tongue"]},
+    "crossing": {
+        "carried": ["book", "name", "source", "target", "text"],
+        "shared": ["book", "one", "other", "tongue"], "are_apart": ["book", "names", "tongue"],
+        "which": ["book", "tongue", "text"],
+    },
+    "marking": {
+        "gaps": ["book", "name", "tongue"], "marked": ["book", "name", "tongue", "chosen"],
+        "marks": ["book", "name", "tongue"], "reasons": ["book", "name", "tongue"],
+        "reasons_hold": ["book", "name", "tongue", "count", "value"],
+    },
+    "readers": {"Reader": ["book", "tongue"]},
+    "texts": {"printed_pattern": ["pattern"], "parse_pattern": ["text"]},
+}
+
+# The methods that the interface lists for a class, each defined in the class itself.
+CLASSES = {
+    ("readers", "Reader"): {
+        "put": ["name"], "take": ["name"], "names": [], "__contains__": None, "__len__": [],
+        "read": ["text"], "carried": ["text", "target"],
+    },
 }
 
 LIBRARY = {
@@ -46,8 +66,8 @@ BUILTINS = set(
     "AttributeError StopIteration NotImplemented".split())
 
 # The methods of builtin values that the package calls so far, all of them allowed.
-METHODS = set("append endswith extend find get index items join setdefault startswith values "
-              "bit_length add".split())
+METHODS = set("append endswith extend find get index items join pop replace setdefault startswith "
+              "values bit_length add".split())
 
 BARRED = (
     ast.Global, ast.AsyncFunctionDef, ast.AsyncFor, ast.AsyncWith, ast.Await, ast.Div, ast.MatMult,
@@ -79,6 +99,22 @@ class TestInterface(unittest.TestCase):
                 self.assertEqual(thing.__module__, f"readhome.{module}")
                 if arguments is not None:
                     self.assertEqual(list(inspect.signature(thing).parameters), arguments, name)
+
+
+    def test_methods_of_classes(self):
+        for (module, name), methods in CLASSES.items():
+            held = getattr(importlib.import_module(f"readhome.{module}"), name)
+            for method, arguments in methods.items():
+                self.assertIn(method, vars(held))
+                if arguments is not None:
+                    self.assertEqual(
+                        list(inspect.signature(vars(held)[method]).parameters), ["self", *arguments])
+
+    def test_functions_are_defined_where_they_are_listed(self):
+        for name, tree in trees():
+            listed = INTERFACE.get(name[:-3], {})
+            defined = [node.name for node in tree.body if isinstance(node, (ast.FunctionDef, ast.ClassDef))]
+            self.assertLessEqual(set(listed), set(defined), name)
 
 
 class TestLanguage(unittest.TestCase):
