@@ -146,6 +146,17 @@ class TestMarks(MarksCase):
         self.check_main((by_option((A, A), (A,)), by_option((A,), (A, A))), C, ((0, 0, 1),))
         self.check_main((by_option((A, A), (A,)), A, by_option((), ())), C, ())
 
+    def test_one_mark_behind_two_others(self):
+        # The first two gaps do together, but the last one does alone.
+        three = (("f", ("choice", ("p", "q", "r"))),)
+        case = ("case", "f", (("p", (A, A)), ("q", (A, ("text", "b"))), ("other", ())))
+        self.check_main((case, SHOW_A), three + TWO[:1], ((1,),))
+        self.check_main((SHOW_A, case), TWO[:1] + three, ((1,),))
+        book = book_of((case, SHOW_A), three + TWO[:1])
+        self.assertTrue(is_readable(marked(book, "main", "en", ((0, 0, 1), (0, 1, 1))), "main", "en"))
+        for gap in ((0, 0, 1), (0, 1, 1)):
+            self.assertFalse(is_readable(marked(book, "main", "en", (gap,)), "main", "en"))
+
     def test_mark_that_makes_two_texts_equal_again(self):
         # x says aa, y says a|a: with a mark between its pieces x says the same.
         pattern = (by_option((A, A), (A, MARK, A)),)

@@ -5,6 +5,7 @@ import builtins
 import importlib
 import inspect
 import pathlib
+import re
 import unittest
 
 PACKAGE = pathlib.Path(__file__).resolve().parent.parent / "readhome"
@@ -68,6 +69,15 @@ BUILTINS = set(
 # The methods of builtin values that the package calls so far, all of them allowed.
 METHODS = set("append endswith extend find get index items join pop replace setdefault startswith "
               "values bit_length add".split())
+
+BARRED_NAMES = set(
+    "mro elements open input law version_info register attrgetter breakpoint builtins compile copyright "
+    "credits delattr dir eval exec exit gc getattr globals hasattr help id importlib license locals "
+    "methodcaller os quit setattr super type vars sys".split())
+
+BARRED_WORDS = set(
+    "type typing enum Enum IntEnum StrEnum Flag IntFlag Generic Protocol ABC ABCMeta namedtuple NamedTuple "
+    "TypedDict abstractmethod dataclass overload contextmanager _wall _WallAttr".split())
 
 BARRED = (
     ast.Global, ast.AsyncFunctionDef, ast.AsyncFor, ast.AsyncWith, ast.Await, ast.Div, ast.MatMult,
@@ -190,6 +200,48 @@ class TestLanguage(unittest.TestCase):
             for node in ast.walk(tree):
                 if isinstance(node, ast.Call) and isinstance(node.func, ast.Attribute):
                     self.assertIn(node.func.attr, METHODS | own, name)
+
+    def test_names(self):
+        # No parameter or local variable has the name of what its file defines or imports.
+        for name, tree in trees():
+            bound = [alias.name for node in tree.body if isinstance(node, ast.ImportFrom) for alias in node.names]
+            for node in tree.body:
+                if isinstance(node, (ast.FunctionDef, ast.ClassDef)):
+                    bound.append(node.name)
+                elif isinstance(node, ast.Assign):
+                    bound.append(node.targets[0].id)
+            self.assertEqual(len(set(bound)), len(bound), name)
+            for function in ast.walk(tree):
+                if isinstance(function, (ast.FunctionDef, ast.Lambda)):
+                    held = {node.id for node in ast.walk(function)
+                            if isinstance(node, ast.Name) and not isinstance(node.ctx, ast.Load)}
+                    held |= {node.arg for node in ast.walk(function) if isinstance(node, ast.arg)}
+                    self.assertFalse(held & (set(bound) | BARRED_NAMES), name)
+
+    def test_classes(self):
+        methods = set().union(*(dir(kind) for kind in (str, int, list, tuple, dict, set, bytes)))
+        for name, tree in trees():
+            for node in ast.walk(tree):
+                if isinstance(node, ast.ClassDef):
+                    its = {inner.name for inner in node.body if isinstance(inner, ast.FunctionDef)}
+                    held = {inner.attr for inner in ast.walk(node) if isinstance(inner, ast.Attribute)
+                            and not isinstance(inner.ctx, ast.Load)}
+                    self.assertFalse(its & held, (name, node.name))
+                    self.assertLessEqual(its & methods, {"__init__", "__contains__", "__len__"})
+                    self.assertFalse(held & methods, (name, node.name))
+
+    def test_identity(self):
+        for name, tree in trees():
+            for node in ast.walk(tree):
+                if isinstance(node, ast.Compare):
+                    for sign, other in zip(node.ops, node.comparators):
+                        if isinstance(sign, (ast.Is, ast.IsNot)):
+                            self.assertIsInstance(other, ast.Constant, (name, node.lineno))
+
+    def test_words(self):
+        for path in PACKAGE.glob("*.py"):
+            held = set(re.findall(r"\w+", path.read_text(encoding="utf-8")))
+            self.assertFalse(held & BARRED_WORDS, path.name)
 
     def test_sets(self):
         # A set is made where it is sorted or counted, or once for a name of its own.
