@@ -24,6 +24,7 @@ class Overlaps:
 
     def is_common(self, one, other):
         """Whether the two runs have a text in common."""
+        # No run is without texts, as every way has values.
         if one == other:
             return True
         if not may_be_alike(one[0], other[0]):
@@ -47,7 +48,7 @@ class Overlaps:
         return self.twofold[run]
 
     def partners(self, ways, at):
-        """The numbers, from at on, of the ways of which a value says what another one of way at says."""
+        """The numbers, at or behind it, of the ways with a value that says what another of at does."""
         found = [at] if self.is_clashing(ways[at]) else []
         for behind in range(at + 1, len(ways)):
             if self.have_common(ways[at], ways[behind]):
